@@ -46,5 +46,32 @@ def call_field(land, reader):
     return land.tell_field()
 
 
+def call_way(land, reader):
+    return land.tell_way(reader.take_place())
+
+
+def call_next(land, reader):
+    return land.tell_next(reader.take_place())
+
+
+def call_put(land, reader):
+    return land.put_figure(reader.take_place())
+
+
+def call_go(land, reader):
+    return land.let_go(reader.take())
+
+
+def call_crowd(land, reader):
+    return land.tell_crowd()
+
+
+def call_changed(land, reader):
+    place = reader.take_place()
+    cost = reader.take()
+    return land.tell_changed(place, cost)
+
+
 # A call's number is where it stands here.
-CALLS = (call_map, call_set, call_goal, call_no_goal, call_far, call_field)
+CALLS = (call_map, call_set, call_goal, call_no_goal, call_far, call_field,
+         call_way, call_next, call_put, call_go, call_crowd, call_changed)

@@ -1,4 +1,4 @@
-"""How far the places of a map are from its goals.
+"""How far the places of a map are from its goals, and which way leads there.
 
 A place is told here by its spot: how many places stand ahead of it, row by row.
 """
@@ -47,3 +47,21 @@ def open_goals(costs, goals):
 def nearest(reached):
     """The spot that is least far of those reached: no other one can make it nearer any more."""
     return min(reached, key=lambda spot: reached[spot])
+
+
+def next_spot(wide, high, costs, field, spot):
+    """The next place from a spot that is neither nowhere nor at a goal."""
+    for other in beside(wide, high, spot):
+        if field[other] is not None and field[other] + costs[other] == field[spot]:
+            return other
+    return None
+
+
+def way_told(wide, high, costs, field, spot):
+    """The spots of the way told from a spot that is not nowhere, with that spot first."""
+    spots = [spot]
+    # Stepping onto any place costs something, so each next one is nearer and the way ends at a goal.
+    while field[spot] > 0:
+        spot = next_spot(wide, high, costs, field, spot)
+        spots.append(spot)
+    return spots

@@ -2,7 +2,8 @@
 
 from goalfields.maps import answers
 
-NUMBERS = {"map": 0, "set": 1, "goal": 2, "noGoal": 3, "far": 4, "field": 5}
+NUMBERS = {"map": 0, "set": 1, "goal": 2, "noGoal": 3, "far": 4, "field": 5,
+           "way": 6, "next": 7, "put": 8, "go": 9, "crowd": 10, "changed": 11}
 HIGHEST = 4294967295
 
 
@@ -47,7 +48,51 @@ def last(*calls):
     return ask(*calls)[-1]
 
 
+def pairs(numbers):
+    return [tuple(numbers[i:i + 2]) for i in range(0, len(numbers), 2)]
+
+
+def triples(numbers):
+    return [tuple(numbers[i:i + 3]) for i in range(0, len(numbers), 3)]
+
+
+def thrown_costs(dice, wide, high, costs):
+    return [dice.choose(costs) for place in range(wide * high)]
+
+
+def thrown_goals(dice, wide, high):
+    goals = []
+    for time in range(dice.throw(7)):
+        place = (dice.throw(wide), dice.throw(high))
+        if place not in goals:
+            goals.append(place)
+    return goals
+
+
+def winding_map():
+    """A map of the largest size with one winding way over 78 places, from (0, 0) to (0, 11)."""
+    rows = []
+    for y in range(12):
+        if y % 2 == 0:
+            rows.extend([99] * 12)
+        else:
+            rows.extend([0] * 11 + [99] if y % 4 == 1 else [99] + [0] * 11)
+    return ("map", 12, 12, rows)
+
+
+def winding_way():
+    """The places of that way from its far end on."""
+    places = []
+    for y in range(12):
+        if y % 2 == 0:
+            places.extend((x if y % 4 == 0 else 11 - x, y) for x in range(12))
+        else:
+            places.append((11 if y % 4 == 1 else 0, y))
+    return places[::-1]
+
+
 def neighbours(wide, high, place):
+    """The places beside one: right, below, left, above."""
     x, y = place
     around = [(x + 1, y), (x, y + 1), (x - 1, y), (x, y - 1)]
     return [(a, b) for a, b in around if 0 <= a < wide and 0 <= b < high]

@@ -1,4 +1,4 @@
-"""The six calls on ordinary maps."""
+"""The calls map, set, goal, noGoal, far and field on ordinary maps."""
 
 import unittest
 

@@ -2,20 +2,7 @@
 
 import unittest
 
-from helper import Dice, as_field, ask, by_all_ways, by_rounds, neighbours
-
-
-def thrown_map(dice, wide, high, costs):
-    return [dice.choose(costs) for place in range(wide * high)]
-
-
-def thrown_goals(dice, wide, high):
-    goals = []
-    for time in range(dice.throw(7)):
-        place = (dice.throw(wide), dice.throw(high))
-        if place not in goals:
-            goals.append(place)
-    return goals
+from helper import Dice, as_field, ask, by_all_ways, by_rounds, neighbours, thrown_costs, thrown_goals, winding_map
 
 
 def told_field(wide, high, costs, goals):
@@ -65,13 +52,7 @@ class CheapestTest(unittest.TestCase):
 
     def test_a_long_way_round_over_a_map_of_the_largest_size(self):
         """A winding way through walls, which comes by 12 places in each second row."""
-        rows = []
-        for y in range(12):
-            if y % 2 == 0:
-                rows.extend([99] * 12)
-            else:
-                rows.extend([0] * 11 + [99] if y % 4 == 1 else [99] + [0] * 11)
-        told = ask(("map", 12, 12, rows), ("goal", 0, 0), ("far", 0, 11), ("far", 11, 10))
+        told = ask(winding_map(), ("goal", 0, 0), ("far", 0, 11), ("far", 11, 10))
         steps = 6 * 11 + 11
         self.assertEqual(told[0], [144, 78])
         self.assertEqual(told[1], [78])
@@ -82,7 +63,7 @@ class CheapestTest(unittest.TestCase):
         for wide, high in SIZES:
             for kind, ground in enumerate(GROUNDS):
                 dice = Dice(wide * 10007 + high * 101 + kind)
-                costs = thrown_map(dice, wide, high, ground)
+                costs = thrown_costs(dice, wide, high, ground)
                 goals = thrown_goals(dice, wide, high)
                 far = by_rounds(wide, high, costs, goals)
                 with self.subTest(wide=wide, high=high, costs=costs, goals=goals):
@@ -98,7 +79,7 @@ class CheapestTest(unittest.TestCase):
         for wide, high in sizes:
             for seed in range(15):
                 dice = Dice(wide * 1009 + high * 103 + seed)
-                costs = thrown_map(dice, wide, high, [0, 1, 2, 9, 99])
+                costs = thrown_costs(dice, wide, high, [0, 1, 2, 9, 99])
                 goals = thrown_goals(dice, wide, high)
                 with self.subTest(wide=wide, high=high, costs=costs, goals=goals):
                     far = by_all_ways(wide, high, costs, goals)

@@ -21,6 +21,7 @@ setdefault split splitlines startswith strip update upper values zfill bit_lengt
 WORDS = """type typing typing_extensions enum Enum IntEnum StrEnum Flag IntFlag Generic Protocol ABC ABCMeta namedtuple
 NamedTuple TypedDict TYPE_CHECKING abstractmethod""".split()
 UNUSED = "register mro elements open input version_info with_traceback add_note format format_map".split()
+CHANGING = "append clear extend insert pop remove reverse setdefault update".split()
 WALKED = ("zip", "enumerate", "reversed", "range")
 UNDERSCORED = ("__init__", "__eq__", "__repr__", "__str__", "__len__")
 PYTHONS_OWN = [name for kind in (str, int, list, dict, set, bytes, tuple) for name in dir(kind)]
@@ -148,6 +149,63 @@ class LanguageTest(unittest.TestCase):
             name = getattr(node.func, "id", None) or getattr(node.func, "attr", None)
             if name in WALKED or name in ("items", "keys", "values"):
                 self.assertIn(id(node), walked, where)
+
+    def test_what_the_package_does_without(self):
+        """Some rules let a form stand under conditions; the package keeps them by not using the form at all."""
+        for where, node in self.nodes(ast.Try, ast.Raise, ast.JoinedStr, ast.Pow, ast.AnnAssign):
+            self.fail("%s %s" % (where, type(node).__name__))
+        for where, node in self.nodes(ast.Name):
+            self.assertNotIn(node.id, ("set", "frozenset", "chr"), where)
+        for where, node in self.nodes(ast.arg):
+            self.assertIsNone(node.annotation, where)
+        for where, node in self.nodes(ast.FunctionDef):
+            self.assertIsNone(node.returns, where)
+            self.assertEqual(node.args.defaults, [], where)
+            self.assertNotIn(node.name, UNDERSCORED[1:], where)
+        for where, node in self.nodes(ast.Constant):
+            if isinstance(node.value, str):
+                self.assertNotIn("%", node.value, where)
+
+    def test_keywords_are_keys_alone(self):
+        for where, node in self.nodes(ast.Call):
+            if node.keywords:
+                self.assertIn(getattr(node.func, "id", None), ("sorted", "min", "max"), where)
+                self.assertEqual([keyword.arg for keyword in node.keywords], ["key"], where)
+                self.assertIsInstance(node.keywords[0].value, ast.Lambda, where)
+
+    def test_no_two_files_draw_from_one_another(self):
+        drawn = {}
+        for name, tree in self.trees.items():
+            drawn[name] = [node.module.split(".")[1] + ".py" for node in tree.body if isinstance(node, ast.ImportFrom)]
+        while drawn:
+            free = [name for name in drawn if not [other for other in drawn[name] if other in drawn]]
+            self.assertNotEqual(free, [], drawn)
+            drawn = {name: drawn[name] for name in drawn if name not in free}
+
+    def test_locals_are_not_called_like_what_is_at_the_top(self):
+        for name, tree in self.trees.items():
+            tops = [part.name for node in tree.body if isinstance(node, ast.ImportFrom) for part in node.names]
+            tops += [node.name for node in tree.body if isinstance(node, (ast.ClassDef, ast.FunctionDef))]
+            tops += [node.targets[0].id for node in tree.body if isinstance(node, ast.Assign)]
+            for function in [node for node in ast.walk(tree) if isinstance(node, (ast.FunctionDef, ast.Lambda))]:
+                for node in ast.walk(function):
+                    bound = node.arg if isinstance(node, ast.arg) else ""
+                    if isinstance(node, ast.Name) and isinstance(node.ctx, ast.Store):
+                        bound = node.id
+                    self.assertNotIn(bound, tops, "%s:%d" % (name, function.lineno))
+
+    def test_what_a_loop_walks_is_not_changed_in_it(self):
+        for where, loop in self.nodes(ast.For):
+            walked = [ast.unparse(node) for node in ast.walk(loop.iter) if isinstance(node, (ast.Name, ast.Attribute))]
+            for node in [node for part in loop.body for node in ast.walk(part)]:
+                changed = ""
+                if isinstance(node, ast.Subscript) and isinstance(node.ctx, ast.Store):
+                    changed = ast.unparse(node.value)
+                elif isinstance(node, (ast.Name, ast.Attribute)) and isinstance(node.ctx, ast.Store):
+                    changed = ast.unparse(node)
+                elif isinstance(node, ast.Call) and isinstance(node.func, ast.Attribute) and node.func.attr in CHANGING:
+                    changed = ast.unparse(node.func.value)
+                self.assertNotIn(changed, walked, where)
 
 
 if __name__ == "__main__":

@@ -1,17 +1,18 @@
-"""Every refusal of the six calls: alone, where several hold at once, and that all is as it was then."""
+"""Every refusal of the calls: alone, where several hold at once, and that all is as it was then."""
 
 import unittest
 
-from goalfields.land import Land
 from helper import HIGHEST, ask, last
 
 MAP = ("map", 3, 2, [1, 2, 0,
                      0, 4, 5])
-START = [MAP, ("goal", 0, 0), ("goal", 2, 0)]
-# What shows how all is: the field, each place's goal and cost, and that the map is no larger.
-PROBES = ([("field",), ("goal", 0, 0), ("goal", 2, 0), ("far", 3, 0), ("far", 0, 2)]
+START = [MAP, ("goal", 0, 0), ("goal", 2, 0), ("put", 1, 0)]
+# What shows how all is: the crowd, the field, each place's goal and cost, that the map is no larger, who comes next.
+PROBES = ([("crowd",), ("field",), ("goal", 0, 0), ("goal", 2, 0), ("far", 3, 0), ("far", 0, 2)]
           + [("goal", 1, 0), ("field",), ("set", 2, 0, 1), ("field",), ("noGoal", 0, 0), ("noGoal", 1, 0), ("field",)]
-          + [("goal", 0, 1), ("goal", 1, 1), ("goal", 2, 1), ("goal", 0, 0), ("goal", 1, 0)])
+          + [("goal", 0, 1), ("goal", 1, 1), ("goal", 2, 1), ("goal", 0, 0), ("goal", 1, 0)]
+          + [("put", 1, 1), ("go", 1), ("crowd",)])
+OFF_THE_MAP = ((3, 0), (0, 2), (3, 2), (2, 2), (3, 1), (HIGHEST, 0), (0, HIGHEST), (HIGHEST, HIGHEST))
 SIX_GOALS = [("map", 8, 1, [1] * 8)] + [("goal", x, 0) for x in range(6)]
 
 
@@ -79,7 +80,7 @@ class SetRefusals(RefusalTest):
             self.assert_refused(("set", 2, 0, cost), -1)
 
     def test_not_on_the_map(self):
-        for x, y in ((3, 0), (0, 2), (3, 2), (2, 2), (3, 1), (HIGHEST, 0), (0, HIGHEST), (HIGHEST, HIGHEST)):
+        for x, y in OFF_THE_MAP:
             for cost in (0, 1, 99):
                 self.assert_refused(("set", x, y, cost), -2)
 
@@ -87,46 +88,15 @@ class SetRefusals(RefusalTest):
         self.assert_refused(("set", 3, 0, 100), -1)
         self.assert_refused(("set", HIGHEST, HIGHEST, HIGHEST), -1)
 
-
-class StandingTest(unittest.TestCase):
-    """No call of these puts somebody there, so the map itself is asked."""
-
-    def setUp(self):
-        self.land = Land()
-        self.land.lay_out(3, 1, [1, 2, 3])
-        self.land.add_goal((0, 0))
-        self.land.crowd[0] = 1
-
-    def test_no_wall_where_somebody_stands(self):
-        self.assertEqual(self.land.set_cost((1, 0), 0), [-4])
-        self.assertEqual(self.land.costs, [1, 2, 3])
-        self.assertEqual(self.land.tell_field(), [1, 2, 4])
-        self.assertEqual(self.land.crowd, {0: 1})
-
-    def test_other_costs_there_and_walls_elsewhere(self):
-        self.assertEqual(self.land.set_cost((1, 0), 1), [3])
-        self.assertEqual(self.land.set_cost((1, 0), 99), [3])
-        self.assertEqual(self.land.set_cost((0, 0), 0), [0])
-        self.assertEqual(self.land.set_cost((2, 0), 0), [0])
-        self.assertEqual(self.land.costs, [0, 99, 0])
-
-    def test_refusals_told_ahead(self):
-        self.assertEqual(self.land.set_cost((1, 0), 100), [-1])
-        self.assertEqual(self.land.set_cost((1, 1), 0), [-2])
-
-    def test_nobody_is_on_a_new_map(self):
-        self.assertEqual(self.land.lay_out(3, 1, [1, 1, 1]), [3, 3])
-        self.assertEqual(self.land.set_cost((1, 0), 0), [0])
-        self.assertEqual(self.land.costs, [1, 0, 1])
-
-    def test_all_stay_when_a_map_is_refused(self):
-        self.assertEqual(self.land.lay_out(3, 1, [1, 1]), [-1])
-        self.assertEqual(self.land.set_cost((1, 0), 0), [-4])
+    def test_a_wall_where_somebody_stands(self):
+        self.assert_refused(("set", 1, 0, 0), -4)
+        self.assert_refused(("set", 0, 0, 0), -4, start=START + [("put", 0, 0)])
+        self.assert_refused(("set", 2, 1, 0), -4, start=START + [("put", 2, 1)])
 
 
 class GoalRefusals(RefusalTest):
     def test_not_on_the_map(self):
-        for x, y in ((3, 0), (0, 2), (3, 2), (2, 2), (3, 1), (HIGHEST, 0), (0, HIGHEST), (HIGHEST, HIGHEST)):
+        for x, y in OFF_THE_MAP:
             self.assert_refused(("goal", x, y), -2)
 
     def test_it_is_one(self):
@@ -160,7 +130,7 @@ class GoalRefusals(RefusalTest):
 
 class NoGoalRefusals(RefusalTest):
     def test_not_on_the_map(self):
-        for x, y in ((3, 0), (0, 2), (3, 2), (2, 2), (3, 1), (HIGHEST, 0), (0, HIGHEST), (HIGHEST, HIGHEST)):
+        for x, y in OFF_THE_MAP:
             self.assert_refused(("noGoal", x, y), -2)
 
     def test_it_is_none(self):
@@ -177,7 +147,7 @@ class NoGoalRefusals(RefusalTest):
 
 class FarRefusals(RefusalTest):
     def test_not_on_the_map(self):
-        for x, y in ((3, 0), (0, 2), (3, 2), (2, 2), (3, 1), (HIGHEST, 0), (0, HIGHEST), (HIGHEST, HIGHEST)):
+        for x, y in OFF_THE_MAP:
             self.assert_refused(("far", x, y), -2)
 
     def test_a_wall_is_nowhere(self):
@@ -195,6 +165,90 @@ class FarRefusals(RefusalTest):
     def test_not_on_the_map_is_told_where_all_is_nowhere(self):
         self.assert_refused(("far", 3, 0), -2, start=[MAP])
         self.assertEqual(last(("far", 1, 1)), [-2])
+
+
+class WayRefusals(RefusalTest):
+    def test_not_on_the_map(self):
+        for x, y in OFF_THE_MAP:
+            self.assert_refused(("way", x, y), -2)
+
+    def test_a_wall_is_nowhere_also_with_a_goal_in_it(self):
+        self.assert_refused(("way", 0, 1), -6)
+        self.assert_refused(("way", 2, 0), -6)
+
+    def test_cut_off_is_nowhere(self):
+        self.assert_refused(("way", 2, 1), -6, start=START + [("set", 1, 1, 0)])
+
+    def test_all_is_nowhere_without_goals(self):
+        self.assert_refused(("way", 0, 0), -6, start=[MAP])
+        self.assert_refused(("way", 3, 0), -2, start=[MAP])
+
+
+class NextRefusals(RefusalTest):
+    def test_not_on_the_map(self):
+        for x, y in OFF_THE_MAP:
+            self.assert_refused(("next", x, y), -2)
+
+    def test_nowhere_also_with_a_goal_in_a_wall(self):
+        self.assert_refused(("next", 0, 1), -6)
+        self.assert_refused(("next", 2, 0), -6)
+        self.assert_refused(("next", 2, 1), -6, start=START + [("set", 1, 1, 0)])
+
+    def test_all_is_nowhere_without_goals(self):
+        self.assert_refused(("next", 0, 0), -6, start=[MAP])
+        self.assert_refused(("next", 3, 0), -2, start=[MAP])
+
+    def test_at_a_goal(self):
+        self.assert_refused(("next", 0, 0), -7)
+        self.assert_refused(("next", 1, 0), -7, start=START + [("goal", 1, 0)])
+
+
+class PutRefusals(RefusalTest):
+    # Twelve figures; a wall and a free place are left.
+    FULL = [("map", 7, 2, [1] * 13 + [0]), ("goal", 0, 0)] + [("put", x, y) for y in range(2) for x in range(6)]
+    FULL_PROBES = [("crowd",), ("field",), ("go", 1), ("put", 6, 0), ("crowd",), ("go", 60), ("crowd",)]
+
+    def test_not_on_the_map(self):
+        for x, y in OFF_THE_MAP:
+            self.assert_refused(("put", x, y), -2)
+
+    def test_a_wall(self):
+        self.assert_refused(("put", 0, 1), -4)
+        self.assert_refused(("put", 2, 0), -4)
+
+    def test_somebody_stands_there(self):
+        self.assert_refused(("put", 1, 0), -4)
+
+    def test_there_are_twelve(self):
+        self.assert_refused(("put", 6, 0), -5, start=self.FULL, probes=self.FULL_PROBES)
+
+    def test_the_others_are_told_ahead_of_there_are_twelve(self):
+        self.assert_refused(("put", 7, 0), -2, start=self.FULL, probes=self.FULL_PROBES)
+        self.assert_refused(("put", 6, 1), -4, start=self.FULL, probes=self.FULL_PROBES)
+        self.assert_refused(("put", 3, 1), -4, start=self.FULL, probes=self.FULL_PROBES)
+
+
+class GoRefusals(RefusalTest):
+    def test_above_sixty(self):
+        for steps in (61, 62, 256, HIGHEST):
+            self.assert_refused(("go", steps), -1)
+            self.assert_refused(("go", steps), -1, start=[], probes=[("crowd",), ("put", 0, 0)])
+
+
+class ChangedRefusals(RefusalTest):
+    def test_above_ninety_nine(self):
+        for cost in (100, 101, 256, HIGHEST):
+            self.assert_refused(("changed", 1, 0, cost), -1)
+            self.assert_refused(("changed", 2, 0, cost), -1)
+
+    def test_not_on_the_map(self):
+        for x, y in OFF_THE_MAP:
+            for cost in (0, 1, 99):
+                self.assert_refused(("changed", x, y, cost), -2)
+
+    def test_above_ninety_nine_is_told_ahead_of_not_on_the_map(self):
+        self.assert_refused(("changed", 3, 0, 100), -1)
+        self.assert_refused(("changed", HIGHEST, HIGHEST, HIGHEST), -1)
 
 
 if __name__ == "__main__":
